@@ -1,0 +1,1 @@
+"""Frames: films of a few pictures, each shown for so many ticks."""
