@@ -2,11 +2,14 @@
 
 import unittest
 
-from wording import (box, drop, film_behind, frames_of, loop, page, put, state_of, stretch, ticks, together, turn)
+from wording import (box, bring, drop, film_behind, frames_of, loop, page, put, read, state_of, stretch, ticks,
+                     together, turn, undo)
 
 MADE = [page(2, 1), put(0), box(1, 0, 0, 1, 1, 5), ticks(0, 3), loop(1)]
-CHANGES = [put(1), drop(0), box(0, 0, 0, 2, 1, 8), ticks(1, 7), loop(2), turn(), together(), stretch(1, 2)]
-REFUSED = [page(0, 0), put(2), drop(2), box(0, 0, 0, 1, 1, 256), ticks(0, 0), loop(3), stretch(0, 0)]
+CHANGES = [put(1), drop(0), box(0, 0, 0, 2, 1, 8), ticks(1, 7), loop(2), turn(), together(), stretch(1, 2), bring(9),
+           read(1, 3, [4, 0, 0, 1, 1, 9])]
+REFUSED = [page(0, 0), put(2), drop(2), box(0, 0, 0, 1, 1, 256), ticks(0, 0), loop(3), stretch(0, 0), bring(0), bring(1),
+           read(1, 1, []), read(0, 0, []), read(1, 1, [1])]
 
 
 def now(film):
@@ -38,6 +41,12 @@ class PastTest(unittest.TestCase):
             calls = [ticks(0, 2 + i) for i in range(count)]
             wanted = [now(film_behind(*calls[:i])) for i in range(max(0, count - 8), count)]
             self.assertEqual(past(film_behind(*calls)), wanted)
+
+    def test_an_undo_takes_the_last_away(self):
+        before = film_behind(*MADE)
+        for change in CHANGES:
+            film = film_behind(*MADE, change, undo())
+            self.assertEqual(state_of(film), state_of(before), change)
 
     def test_a_page_forgets_all(self):
         self.assertEqual(past(film_behind(*MADE, page(2, 1))), [])

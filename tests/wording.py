@@ -41,6 +41,38 @@ def stretch(a, m):
     return [8, a, m]
 
 
+def bring(m):
+    return [9, m]
+
+
+def read(w, h, numbers):
+    return [10, w, h, len(numbers)] + numbers
+
+
+def undo():
+    return [11]
+
+
+def shown(t):
+    return [12, t]
+
+
+def between(t):
+    return [13, t]
+
+
+def place(t):
+    return [14, t]
+
+
+def told():
+    return [15]
+
+
+def listed():
+    return [16]
+
+
 def joined(calls):
     return [number for call in calls for number in call]
 
@@ -66,6 +98,21 @@ def ask(*calls):
 
 def last(*calls):
     return ask(*calls)[-1]
+
+
+def seen(*calls):
+    """What list and told answer behind the calls: all that the film is then."""
+    return ask(*calls, listed(), told())[-2:]
+
+
+def seen_back(*calls):
+    """What is seen behind the calls, and then behind each undo, to the refused one."""
+    found = [seen(*calls)]
+    back = []
+    while last(*calls, *back, undo()) != [-4]:
+        back.append(undo())
+        found.append(seen(*calls, *back))
+    return found
 
 
 def film_behind(*calls):
